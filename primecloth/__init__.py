@@ -1,0 +1,1 @@
+"""Primecloth: rows over the remainders of a prime, and secrets in shares."""
