@@ -1,4 +1,8 @@
-"""Primes up to a million, their remainders, and the inverse of a remainder."""
+"""Primes up to a million, their remainders, and the inverse of a remainder.
+
+Here and in the other modules, functions that the interface does not name take what has been checked already,
+but for those called check_...
+"""
 
 from primecloth.errors import BadSpot, NoDivisor, NotPrime
 
@@ -32,11 +36,7 @@ def check_remainder(prime, number):
         raise BadSpot("a remainder of the prime is needed")
 
 
-def inverse(prime, number):
-    check_prime(prime)
-    check_remainder(prime, number)
-    if number == 0:
-        raise NoDivisor("nought has no inverse")
+def inverse_of(prime, number):
     factor = 1
     left = number
     # At every turn, factor * number and left are the same but for multiples of the prime. The next left,
@@ -46,3 +46,11 @@ def inverse(prime, number):
         factor = (-factor * (prime // left)) % prime
         left = prime % left
     return factor
+
+
+def inverse(prime, number):
+    check_prime(prime)
+    check_remainder(prime, number)
+    if number == 0:
+        raise NoDivisor("nought has no inverse")
+    return inverse_of(prime, number)

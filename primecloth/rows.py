@@ -32,20 +32,25 @@ def number_at(row, power):
     return 0
 
 
-def added(prime, one, two):
-    check_rows(prime, one, two)
+def nought_at(prime, spot):
+    return [(-spot) % prime, 1]
+
+
+def sum_of(prime, one, two):
     length = max(len(one), len(two))
     return trimmed([(number_at(one, power) + number_at(two, power)) % prime for power in range(length)])
 
 
-def lessened(prime, one, two):
-    check_rows(prime, one, two)
+def difference_of(prime, one, two):
     length = max(len(one), len(two))
     return trimmed([(number_at(one, power) - number_at(two, power)) % prime for power in range(length)])
 
 
-def multiplied(prime, one, two):
-    check_rows(prime, one, two)
+def multiple_of(prime, row, factor):
+    return trimmed([(number * factor) % prime for number in row])
+
+
+def product_of(prime, one, two):
     sums = [0] * (len(one) + len(two))
     for first, number in enumerate(one):
         for second, other in enumerate(two):
@@ -53,12 +58,31 @@ def multiplied(prime, one, two):
     return trimmed(sums)
 
 
+def worth_of(prime, numbers, spot):
+    total = 0
+    # From the last number on, each step raises the powers of all numbers behind it by one.
+    for number in reversed(numbers):
+        total = (total * spot + number) % prime
+    return total
+
+
+def added(prime, one, two):
+    check_rows(prime, one, two)
+    return sum_of(prime, one, two)
+
+
+def lessened(prime, one, two):
+    check_rows(prime, one, two)
+    return difference_of(prime, one, two)
+
+
+def multiplied(prime, one, two):
+    check_rows(prime, one, two)
+    return product_of(prime, one, two)
+
+
 def worth(prime, row, spot):
     check_prime(prime)
     check_row(prime, row)
     check_remainder(prime, spot)
-    total = 0
-    # From the last number on, each step raises the powers of all numbers behind it by one.
-    for number in reversed(row):
-        total = (total * spot + number) % prime
-    return total
+    return worth_of(prime, row, spot)

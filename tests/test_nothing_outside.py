@@ -21,7 +21,8 @@ def package_trees():
 class NothingOutsideTest(unittest.TestCase):
     def test_the_package_is_there(self):
         names = [name for name, tree in package_trees()]
-        for name in ("__init__.py", "errors.py", "remainders.py", "rows.py"):
+        for name in ("__init__.py", "errors.py", "remainders.py", "rows.py", "dividing.py", "points.py",
+                     "sharing.py", "roots.py"):
             self.assertIn(name, names)
 
     def test_only_the_packages_own_files_are_imported(self):

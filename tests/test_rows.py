@@ -1,63 +1,20 @@
 import unittest
 
-from primecloth.errors import BadRow, BadSpot, ClothError, NotPrime
+from primecloth.errors import BadRow, BadSpot, NotPrime
 from primecloth.rows import added, lessened, multiplied, worth
-from tests.samples import HUGE, LARGE_PRIMES, NO_PRIMES, all_rows, bad_rows, long_row, no_remainders
-
-# Wide enough that no sum of products of remainders runs over into the next place.
-PLACE = 10 ** 20
-
-
-def packed(row):
-    """The row's worth, without remainders, at a spot so large that its numbers stay apart."""
-    return sum(number * PLACE ** power for power, number in enumerate(row))
-
-
-def unpacked(prime, number):
-    numbers = []
-    while number > 0:
-        numbers.append(number % PLACE % prime)
-        number //= PLACE
-    while numbers and numbers[-1] == 0:
-        numbers.pop()
-    return numbers
-
-
-def negated(prime, row):
-    return [prime - number for number in row]
-
-
-def plain_sum(prime, one, two):
-    return unpacked(prime, packed(one) + packed(two))
-
-
-def plain_difference(prime, one, two):
-    return unpacked(prime, packed(one) + packed(negated(prime, two)))
-
-
-def plain_product(prime, one, two):
-    return unpacked(prime, packed(one) * packed(two))
-
-
-def plain_worth(prime, row, spot):
-    return sum(number * spot ** power for power, number in enumerate(row)) % prime
-
+from tests.samples import (
+    HUGE, LARGE_PRIMES, NO_PRIMES, CallTest, all_rows, bad_rows, long_row, no_remainders, plain_difference,
+    plain_product, plain_sum, plain_worth)
 
 OPERATIONS = ((added, plain_sum), (lessened, plain_difference), (multiplied, plain_product))
 
 
-class OperationsTest(unittest.TestCase):
+class OperationsTest(CallTest):
     def check(self, prime, one, two):
         for operation, plain in OPERATIONS:
-            first = list(one)
-            second = list(two)
-            found = operation(prime, first, second)
+            found = self.told(operation, prime, one, two)
             self.assertIs(type(found), list)
             self.assertEqual(found, plain(prime, one, two), (operation.__name__, prime, one, two))
-            self.assertEqual(first, one)
-            self.assertEqual(second, two)
-            self.assertIsNot(found, first)
-            self.assertIsNot(found, second)
 
     def check_all_pairs(self, prime, rows):
         for one in rows:
@@ -174,41 +131,31 @@ class ProductTest(unittest.TestCase):
         self.assertEqual(multiplied(999983, [999982, 999982], [999982, 1]), [1, 0, 999982])
 
 
-class OperationRefusalsTest(unittest.TestCase):
-    def refused(self, refusal, prime, one, two):
+class OperationRefusalsTest(CallTest):
+    def all_refused(self, refusal, prime, one, two):
         for operation, plain in OPERATIONS:
-            first = list(one)
-            second = list(two)
-            with self.subTest(operation=operation.__name__, prime=prime, one=one, two=two):
-                with self.assertRaises(refusal) as caught:
-                    operation(prime, first, second)
-                self.assertIsInstance(caught.exception, ClothError)
-                self.assertIsInstance(caught.exception, ValueError)
-                self.assertEqual(first, one)
-                self.assertEqual(second, two)
+            self.refused(refusal, operation, prime, one, two)
 
     def test_bad_rows(self):
         for prime in (2, 7, 999983):
             for bad in bad_rows(prime):
                 for good in ([], [1], [0, 1, 1]):
-                    self.refused(BadRow, prime, bad, good)
-                    self.refused(BadRow, prime, good, bad)
-                self.refused(BadRow, prime, bad, bad)
+                    self.all_refused(BadRow, prime, bad, good)
+                    self.all_refused(BadRow, prime, good, bad)
+                self.all_refused(BadRow, prime, bad, bad)
 
     def test_no_primes_go_ahead_of_bad_rows(self):
         for prime in NO_PRIMES:
             for one in ([], [1], [0], [-1], [prime], [HUGE, 0]):
                 for two in ([], [1], [1, 0], [-1], [HUGE]):
-                    self.refused(NotPrime, prime, one, two)
+                    self.all_refused(NotPrime, prime, one, two)
 
 
-class WorthTest(unittest.TestCase):
+class WorthTest(CallTest):
     def check(self, prime, row, spot):
-        given = list(row)
-        found = worth(prime, given, spot)
+        found = self.told(worth, prime, row, spot)
         self.assertIs(type(found), int)
         self.assertEqual(found, plain_worth(prime, row, spot), (prime, row, spot))
-        self.assertEqual(given, row)
 
     def test_the_documents_example(self):
         self.assertEqual(worth(7, [2, 0, 3], 4), 1)
@@ -244,33 +191,24 @@ class WorthTest(unittest.TestCase):
                     self.check(prime, long_row(prime, length, 31), spot)
 
 
-class WorthRefusalsTest(unittest.TestCase):
-    def refused(self, refusal, prime, row, spot):
-        given = list(row)
-        with self.subTest(prime=prime, row=row, spot=spot):
-            with self.assertRaises(refusal) as caught:
-                worth(prime, given, spot)
-            self.assertIsInstance(caught.exception, ClothError)
-            self.assertIsInstance(caught.exception, ValueError)
-            self.assertEqual(given, row)
-
+class WorthRefusalsTest(CallTest):
     def test_no_primes_go_ahead_of_all(self):
         for prime in NO_PRIMES:
             for row in ([], [1], [0], [1, 0], [-1], [HUGE]):
                 for spot in (0, 1, -1, prime, HUGE, -HUGE):
-                    self.refused(NotPrime, prime, row, spot)
+                    self.refused(NotPrime, worth, prime, row, spot)
 
     def test_bad_rows_go_ahead_of_bad_spots(self):
         for prime in (2, 7, 999983):
             for row in bad_rows(prime):
                 for spot in (0, 1, prime - 1) + no_remainders(prime):
-                    self.refused(BadRow, prime, row, spot)
+                    self.refused(BadRow, worth, prime, row, spot)
 
     def test_bad_spots(self):
         for prime in (2, 7, 999983):
             for row in ([], [1], [0, 1], long_row(prime, 100, 2)):
                 for spot in no_remainders(prime):
-                    self.refused(BadSpot, prime, row, spot)
+                    self.refused(BadSpot, worth, prime, row, spot)
 
 
 class ArgumentsTest(unittest.TestCase):
